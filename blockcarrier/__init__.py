@@ -1,0 +1,1 @@
+"""Blockcarrier: a carrier that moves blocks of memory beside a processor."""
