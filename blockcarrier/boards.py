@@ -67,12 +67,7 @@ def order_can_be(order, at, order_count, cell_count):
 
 def first_wrong_deed(program, order_count, cell_count):
     """The number of the first deed that cannot be, or None."""
-    counts = {
-        "cell": cell_count,
-        "number": NUMBERS,
-        "order": order_count,
-        "line": cell_count // LINE,
-    }
+    counts = counts_of_things(order_count, cell_count)
     starts = 0
     for at, deed in enumerate(program):
         if at == MOST_DEEDS or not deed_can_be(deed, counts):
@@ -82,6 +77,16 @@ def first_wrong_deed(program, order_count, cell_count):
         if starts > MOST_STARTS:
             return at
     return None
+
+
+def counts_of_things(order_count, cell_count):
+    """How many things there are of each kind that a deed can name."""
+    return {
+        "cell": cell_count,
+        "number": NUMBERS,
+        "order": order_count,
+        "line": cell_count // LINE,
+    }
 
 
 def deed_can_be(deed, counts):

@@ -1,5 +1,9 @@
 """Boards that several tests use."""
 
+import itertools
+
+from blockcarrier.judging import amiss
+
 EIGHT = (1, 2, 3, 4, 5, 6, 7, 8)
 SIXTY_FIGURES = 10 ** 60 - 1
 
@@ -64,3 +68,14 @@ def shuffled_program(chance, cells, orders):
 
 def shuffled_pace(chance):
     return [chance.random() < 0.5 for _ in range(chance.randrange(20))]
+
+
+def all_paces(asked):
+    """Every pace that can make a difference to a board, one by one."""
+    used = sum(deed[0] != "wait" for deed in asked[2])
+    return [list(pace) for pace in itertools.product((True, False), repeat=used)]
+
+
+def sure_at_all_paces(asked):
+    """Whether nothing is amiss, found by trying the paces one by one."""
+    return not any(amiss(asked, pace) for pace in all_paces(asked))

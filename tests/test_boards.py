@@ -3,16 +3,35 @@
 import unittest
 
 from blockcarrier.errors import BadBoard, BadCount, BadFence, BadText, CarrierError, NotSure
+from blockcarrier.fences import fenced, fewest, fully, spare
+from blockcarrier.judging import amiss, judged
 from blockcarrier.plainly import plain_end, sights
 from blockcarrier.running import ended, story
+from blockcarrier.texts import written
 
 from samples import EIGHT, SIXTY_FIGURES, board
 
-ASKED = {
+# Those that serve every board that can be.
+SERVING = {
     "story": lambda asked: story(asked, []),
     "ended": lambda asked: ended(asked, [True]),
     "plain_end": plain_end,
     "sights": sights,
+    "amiss": lambda asked: amiss(asked, [False]),
+    "judged": judged,
+    "fenced": lambda asked: fenced(asked, []),
+    "fully": fully,
+    "written": written,
+}
+# A board that cannot be goes ahead of fences and counts that cannot be.
+ASKED = {
+    **SERVING,
+    "fenced with a bad fence": lambda asked: fenced(asked, [(-1, ("jump",))]),
+    "fenced with a 31st fence": lambda asked: fenced(asked, [(0, ("wait",))] * 31),
+    "spare": lambda asked: spare(asked, []),
+    "spare with a bad fence": lambda asked: spare(asked, [(SIXTY_FIGURES, ("set", 0, 0))]),
+    "fewest": lambda asked: fewest(asked, 0),
+    "fewest with a bad count": lambda asked: fewest(asked, -1),
 }
 SIXTEEN = EIGHT + EIGHT
 ORDER = (0, 4, 1, None)
@@ -30,7 +49,7 @@ class Boards(unittest.TestCase):
                 self.assertEqual(told, (word, number))
 
     def served(self, asked):
-        for name, function in ASKED.items():
+        for name, function in SERVING.items():
             with self.subTest(function=name, board=asked):
                 function(asked)
 

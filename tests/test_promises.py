@@ -4,18 +4,72 @@ import copy
 import random
 import unittest
 
-from blockcarrier.errors import BadBoard
+from blockcarrier.errors import BadBoard, BadCount, BadFence, BadText, CarrierError, NotSure
+from blockcarrier.fences import fenced, fewest, fully, spare
+from blockcarrier.judging import amiss, judged
 from blockcarrier.plainly import plain_end, sights
 from blockcarrier.running import ended, story
+from blockcarrier.texts import read_board, written
 
 from samples import EIGHT, RACE, board, shuffled_boards, shuffled_pace
 
+# Each is handed a board, a pace and fences.
 ASKED = {
-    "story": story,
-    "ended": ended,
-    "plain_end": lambda asked, pace: plain_end(asked),
-    "sights": lambda asked, pace: sights(asked),
+    "story": lambda asked, pace, fences: story(asked, pace),
+    "ended": lambda asked, pace, fences: ended(asked, pace),
+    "plain_end": lambda asked, pace, fences: plain_end(asked),
+    "sights": lambda asked, pace, fences: sights(asked),
+    "amiss": lambda asked, pace, fences: amiss(asked, pace),
+    "judged": lambda asked, pace, fences: judged(asked),
+    "fenced": lambda asked, pace, fences: fenced(asked, fences),
+    "fully": lambda asked, pace, fences: fully(asked),
+    "spare": lambda asked, pace, fences: spare(asked, fences),
+    "fewest": lambda asked, pace, fences: fewest(asked, 1),
+    "written": lambda asked, pace, fences: written(asked),
+    "read_board": lambda asked, pace, fences: read_board(written(asked)),
 }
+SHUT = [(1, ("clean", 0)), (1, ("clean", 1)), (2, ("wait",)), (2, ("drop", 0))]
+REFUSED = (
+    (BadBoard, lambda: story(((1, 2), (), ()), [False])),
+    (BadBoard, lambda: judged((EIGHT, ((0, 0, 9, None),), ()))),
+    (BadBoard, lambda: spare((EIGHT, (), (("set", 0, 1), ("jump",))), [])),
+    (BadBoard, lambda: fenced((EIGHT, (), (("wait",),) * 60), [(0, ("wait",))])),
+    (BadBoard, lambda: read_board("memory 1 2 3 4\nsay 4")),
+    (BadFence, lambda: fenced(RACE, [(0, ("wait",)), (5, ("wait",))])),
+    (BadFence, lambda: spare(RACE, SHUT * 8)),
+    (NotSure, lambda: spare(RACE, SHUT[:3])),
+    (BadCount, lambda: fewest(RACE, 3)),
+    (BadCount, lambda: fewest((EIGHT, (), (("wait",),) * 6), 2)),
+    (BadText, lambda: read_board("memory 1 2 3 4\nsay")),
+)
+
+
+def answer(function, *handed):
+    """What a function tells, or the refusal with its values."""
+    try:
+        return function(*handed)
+    except CarrierError as refused:
+        return refused.__class__, vars(refused)
+
+
+def shuffled_fences(chance, asked):
+    """Fences that can be, and at times one that cannot."""
+    memory, orders, program = asked
+    lines = len(memory) // 4 + (chance.random() < 0.1)
+    return [(chance.randint(0, len(program)),
+             chance.choice((("wait",), ("clean", chance.randrange(lines)),
+                            ("drop", chance.randrange(lines)))))
+            for _ in range(chance.randrange(6))]
+
+
+def changed(told):
+    """Change all lists of what is told, from the inner ones on."""
+    if told.__class__ in (list, tuple):
+        for part in told:
+            changed(part)
+    if told.__class__ is list:
+        told.reverse()
+        told.append("changed")
 
 
 def cells_of(orders, first):
@@ -44,23 +98,47 @@ def fenced_all_around(asked):
 
 
 class Asked(unittest.TestCase):
-    def test_nothing_handed_in_is_changed(self):
+    def setUp(self):
         chance = random.Random(1)
-        for asked in shuffled_boards(chance, 50):
-            pace = shuffled_pace(chance)
-            before = copy.deepcopy((asked, pace))
-            for function in ASKED.values():
-                function(asked, pace)
-                self.assertEqual((asked, pace), before)
+        self.questions = [(asked, shuffled_pace(chance), shuffled_fences(chance, asked))
+                          for asked in shuffled_boards(chance, 60)]
+        self.questions.append((RACE, [False, True], SHUT))
+        self.questions.append((board((1, 2, 3, 10), (), ("say", 9)), [True, False], SHUT))
 
-    def test_nothing_handed_in_is_changed_by_a_refusal(self):
-        asked = board((1, 2, 3, 10), (), ("say", 9))
-        pace = [True, False]
-        for function in ASKED.values():
-            with self.assertRaises(BadBoard):
-                function(asked, pace)
-        self.assertEqual(asked, ((1, 2, 3, 10), (), (("say", 9),)))
-        self.assertEqual(pace, [True, False])
+    def test_nothing_handed_in_is_changed(self):
+        for question in self.questions:
+            before = copy.deepcopy(question)
+            for function in ASKED.values():
+                answer(function, *question)
+                self.assertEqual(question, before)
+
+    def test_what_is_handed_in_may_be_changed_later(self):
+        for asked, pace, fences in self.questions:
+            for function in ASKED.values():
+                handed = list(pace), list(fences)
+                told = answer(function, asked, *handed)
+                before = copy.deepcopy(told)
+                changed(handed)
+                self.assertEqual(told, before)
+                self.assertEqual(answer(function, asked, pace, fences), before)
+
+    def test_what_is_told_is_new_each_time(self):
+        for question in self.questions:
+            for function in ASKED.values():
+                told = answer(function, *question)
+                before = copy.deepcopy(told)
+                changed(told)
+                self.assertEqual(answer(function, *question), before)
+
+    def test_the_same_question_has_the_same_answer_whatever_was_asked_between(self):
+        answers = [[answer(function, *question) for function in ASKED.values()]
+                   for question in self.questions]
+        for kind, refused in REFUSED:
+            with self.assertRaises(kind):
+                refused()
+        again = [[answer(function, *question) for question in reversed(self.questions)]
+                 for function in reversed(ASKED.values())]
+        self.assertEqual([list(reversed(row)) for row in zip(*again)], list(reversed(answers)))
 
     def test_a_pace_may_be_changed_later(self):
         pace = [False, True, False]
@@ -71,31 +149,20 @@ class Asked(unittest.TestCase):
         self.assertEqual(story(RACE, pace), story(RACE, []))
         self.assertNotEqual(before, story(RACE, pace))
 
-    def test_what_is_told_is_new_each_time(self):
-        pace = [False]
-        rows = story(RACE, pace)
-        reads, fetches = sights(RACE)
-        before = copy.deepcopy((rows, reads, fetches))
-        for told in (rows, reads, fetches):
-            told.reverse()
-            told.append("changed")
-        self.assertEqual((story(RACE, pace), *sights(RACE)), before)
+    def test_a_pace_told_can_be_handed_in_again(self):
+        word, pace, row = judged(RACE)
+        self.assertEqual(amiss(RACE, pace)[0], row)
+        changed(pace)
+        self.assertEqual(judged(RACE)[2], row)
 
-    def test_the_same_question_has_the_same_answer(self):
-        chance = random.Random(2)
-        for asked in shuffled_boards(chance, 50):
-            pace = shuffled_pace(chance)
-            for function in ASKED.values():
-                self.assertEqual(function(asked, pace), function(asked, list(pace)))
-
-    def test_a_refusal_changes_no_later_answer(self):
-        before = [function(RACE, [False]) for function in ASKED.values()]
-        for wrong in (board((1, 2), ()), board(EIGHT, ((0, 0, 9, None),)),
-                      board(EIGHT, (), ("set", 0, 1), ("jump",))):
-            for function in ASKED.values():
-                with self.assertRaises(BadBoard):
-                    function(wrong, [False])
-        self.assertEqual([function(RACE, [False]) for function in ASKED.values()], before)
+    def test_each_refusal_is_one_of_the_classes_alone(self):
+        kinds = (BadBoard, BadFence, NotSure, BadCount, BadText)
+        for kind, refused in REFUSED:
+            with self.assertRaises(ValueError) as caught:
+                refused()
+            self.assertIsInstance(caught.exception, CarrierError)
+            found = [other for other in kinds if isinstance(caught.exception, other)]
+            self.assertEqual(found, [kind])
 
 
 class EachPace(unittest.TestCase):
